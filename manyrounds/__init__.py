@@ -1,0 +1,1 @@
+"""Moves of counters, a million million rounds at once."""
