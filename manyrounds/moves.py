@@ -1,10 +1,11 @@
-"""Moves of counters: read, put together, done many times, and told as closed forms.
+"""Moves of counters: read, put together, done many times, and turned round.
 
 What a counter is given is a tuple in the very order of the document: (0, number) for a number alone,
 (1, counter, number) for a counter's old value and a number. A move is a list of these, one for each counter.
 """
 
 LARGEST_IN_MOVE = 99
+LAST_TRIED = 12
 
 
 def own_move(count):
@@ -90,31 +91,38 @@ def values_after(move, n, held):
     return [given_value(given, held) for given in power_of(move, n)]
 
 
-def first_alike(powers, given):
-    """The least place in powers that differs from given by the number alone; None if there's none."""
-    for place, earlier in enumerate(powers):
-        if earlier[:-1] == given[:-1]:
-            return place
-    return None
-
-
-def form_of(move, counter):
-    """The counter's form by the move, as it is answered: t, p, d, and what the first t + p powers give."""
-    powers = [(1, counter, 0)]
-    following = given_behind(move, powers[-1])
-    tail = first_alike(powers, following)
-    # Whose value the next power gives depends only on whose value this one gives: so the first that
-    # comes again closes the circle, and none ahead of it ever comes again.
-    while tail is None:
-        powers.append(following)
-        following = given_behind(move, following)
-        tail = first_alike(powers, following)
-    return [tail, len(powers) - tail, following[-1] - powers[tail][-1]] + move_numbers(powers)
-
-
 def first_difference(one, other):
     """The least counter to which the two moves give otherwise; None if they're the same."""
     for counter, given in enumerate(one):
         if given != other[counter]:
             return counter
+    return None
+
+
+def turned_round(move):
+    """The move by which, done behind this one, each counter has its old value; None if there's none."""
+    turned = own_move(len(move))
+    sources = []
+    for counter, given in enumerate(move):
+        if given[0] == 0 or given[1] in sources:
+            return None
+        sources.append(given[1])
+        turned[given[1]] = (1, counter, -given[2])
+    return turned
+
+
+def order_of(move):
+    """The least n that is tried whose power gives all counters their own value and 0; None if there's none."""
+    own = own_move(len(move))
+    for n in range(1, LAST_TRIED + 1):
+        if power_of(move, n) == own:
+            return n
+    return None
+
+
+def return_of(move, held):
+    """The least n that is tried after which all values are the held ones; None if there's none."""
+    for n in range(1, LAST_TRIED + 1):
+        if values_after(move, n, held) == held:
+            return n
     return None

@@ -4,24 +4,35 @@ Each function answer_... takes all that belongs to its call from the reader befo
 so that the next call is found whether this one is refused or not.
 """
 
+from manyrounds.forms import circles_until_at_least
+from manyrounds.forms import circles_until_equal
+from manyrounds.forms import first_round
+from manyrounds.forms import form_numbers
+from manyrounds.forms import form_of
 from manyrounds.moves import first_difference
-from manyrounds.moves import form_of
 from manyrounds.moves import move_numbers
+from manyrounds.moves import order_of
 from manyrounds.moves import own_move
 from manyrounds.moves import power_of
 from manyrounds.moves import put_together
 from manyrounds.moves import read_move
+from manyrounds.moves import return_of
+from manyrounds.moves import turned_round
 from manyrounds.moves import values_after
 from manyrounds.reader import Reader
 
 MOST_COUNTERS = 4
-LARGEST_HELD = 1000000
+LARGEST_SET = 1000000
+LARGEST_REACHED = 1000000000000
+LARGEST_JOINED = 1000000
 MOST_ROUNDS = 1000000000000
 
 NOT_ALLOWED = -1
 NO_SUCH_MOVE = -2
 NO_SUCH_COUNTER = -3
 NO_SUCH_ROUND = -4
+TOO_LARGE_TO_JOIN = -6
+BEYOND = -7
 
 
 class Counters:
@@ -42,9 +53,9 @@ def is_which(which):
     return which in (0, 1)
 
 
-def are_values(numbers, count):
-    """Whether numbers are whole values that may be held, one for each of count counters."""
-    return len(numbers) == count and all([-LARGEST_HELD <= number <= LARGEST_HELD for number in numbers])
+def are_within(numbers, largest):
+    """Whether none of the numbers is above largest or below -largest."""
+    return all([-largest <= number <= largest for number in numbers])
 
 
 def rounds_refusal(which, n):
@@ -63,6 +74,13 @@ def counter_refusal(counters, which, counter):
     if not 0 <= counter < len(counters.held):
         return NO_SUCH_COUNTER
     return 0
+
+
+def found_or_none(n):
+    """The answer of a call that looks for the least n; None stands for there being none."""
+    if n is None:
+        return [0]
+    return [1, n]
 
 
 def answer_counters(counters, reader):
@@ -87,7 +105,7 @@ def answer_move(counters, reader):
 
 def answer_values(counters, reader):
     numbers = reader.take_row()
-    if not are_values(numbers, len(counters.held)):
+    if len(numbers) != len(counters.held) or not are_within(numbers, LARGEST_SET):
         return [NOT_ALLOWED]
     counters.held = numbers
     return [0]
@@ -117,7 +135,7 @@ def answer_form(counters, reader):
     refusal = counter_refusal(counters, which, counter)
     if refusal < 0:
         return [refusal]
-    return form_of(counters.moves[which], counter)
+    return form_numbers(form_of(counters.moves[which], counter))
 
 
 def answer_both(counters, reader):
@@ -133,6 +151,71 @@ def answer_commute(counters, reader):
     return [0, counter]
 
 
+def answer_order(counters, reader):
+    which = reader.take()
+    if not is_which(which):
+        return [NO_SUCH_MOVE]
+    return found_or_none(order_of(counters.moves[which]))
+
+
+def answer_turn(counters, reader):
+    which = reader.take()
+    if not is_which(which):
+        return [NO_SUCH_MOVE]
+    turned = turned_round(counters.moves[which])
+    if turned is None:
+        return [0]
+    return [1] + move_numbers(turned)
+
+
+def answer_returns(counters, reader):
+    which = reader.take()
+    if not is_which(which):
+        return [NO_SUCH_MOVE]
+    return found_or_none(return_of(counters.moves[which], counters.held))
+
+
+def answer_first_round(counters, reader, circles_until):
+    """The answer of when and at_least, which differ only in when a counter has come to the value."""
+    which = reader.take()
+    counter = reader.take()
+    value = reader.take()
+    refusal = counter_refusal(counters, which, counter)
+    if refusal < 0:
+        return [refusal]
+    form = form_of(counters.moves[which], counter)
+    return found_or_none(first_round(form, counters.held, value, circles_until))
+
+
+def answer_when(counters, reader):
+    return answer_first_round(counters, reader, circles_until_equal)
+
+
+def answer_at_least(counters, reader):
+    return answer_first_round(counters, reader, circles_until_at_least)
+
+
+def answer_join(counters, reader):
+    joined = put_together(counters.moves[0], counters.moves[1])
+    if not are_within([given[-1] for given in joined], LARGEST_JOINED):
+        return [TOO_LARGE_TO_JOIN]
+    counters.moves[0] = joined
+    return move_numbers(joined)
+
+
+def answer_go(counters, reader):
+    which = reader.take()
+    n = reader.take()
+    refusal = rounds_refusal(which, n)
+    if refusal < 0:
+        return [refusal]
+    reached = values_after(counters.moves[which], n, counters.held)
+    if not are_within(reached, LARGEST_REACHED):
+        return [BEYOND]
+    counters.held = reached
+    return [0] + reached
+
+
 # By the number that each call has in the list.
 ANSWERS = {
     0: answer_counters,
@@ -143,6 +226,13 @@ ANSWERS = {
     5: answer_form,
     6: answer_both,
     7: answer_commute,
+    8: answer_order,
+    9: answer_turn,
+    10: answer_returns,
+    11: answer_when,
+    12: answer_at_least,
+    13: answer_join,
+    14: answer_go,
 }
 
 

@@ -1,121 +1,147 @@
 """Each shape of move there is, held against the document's words worked out round by round."""
 
-import itertools
 import random
 import unittest
 
-from lines import MILLION_MILLION, after, ask, both, commute, counters, form, move, power, values
+from lines import (
+    FAR, MILLION_MILLION, after, all_powers, as_numbers, ask, at_least, both, commute, counters, far_power, far_values,
+    first_round, form, form_by_definition, go, join, move, one_round, order, power, returns, round_by_round, shapes,
+    together, turn, values, when,
+)
 
-ROUNDS = 24
+ROUNDS = 20
 
 
-def shapes(count):
-    """For each move of count counters whose value each counter is given; None for a number alone."""
-    return itertools.product([None, *range(count)], repeat=count)
-
-
-def with_numbers(shape, chosen):
+def with_numbers(shape, chosen, numbers=(-99, -7, -1, 0, 0, 1, 2, 50, 99)):
     """A move of this shape, as pairs of whose value and the number."""
-    return [(source, chosen.choice([-99, -7, -1, 0, 0, 1, 2, 50, 99])) for source in shape]
+    return [(source, chosen.choice(numbers)) for source in shape]
 
 
-def as_numbers(pairs):
-    numbers = []
-    for source, number in pairs:
-        numbers += [0, number] if source is None else [1, source, number]
-    return numbers
+def least(rounds):
+    """The answer by the least n from 1 to 12 in whose place the first one comes again."""
+    for n in range(1, 13):
+        if rounds[n] == rounds[0]:
+            return [1, n]
+    return [0]
 
 
-def one_round(pairs, held):
-    return [number if source is None else held[source] + number for source, number in pairs]
-
-
-def all_powers(pairs, most):
-    """Powers 0 to most, told by doing rounds with values that are so far apart that each shows whose it is."""
-    apart = 10 ** 6
-    held = [apart * (place + 1) for place in range(len(pairs))]
-    powers = []
-    for n in range(most + 1):
-        powers.append([read_back(value, apart) for value in held])
-        held = one_round(pairs, held)
-    return powers
-
-
-def read_back(value, apart):
-    place = (value + apart // 2) // apart
-    return (None if place == 0 else place - 1, value - apart * place)
-
-
-def holds(column, t, p):
-    """The amount d, if t and p are those of a form, as far as the powers are looked at; else None."""
-    amounts = {later[1] - earlier[1] for earlier, later in zip(column[t:], column[t + p:])}
-    same = all(later[0] == earlier[0] for earlier, later in zip(column[t:], column[t + p:]))
-    return amounts.pop() if same and len(amounts) == 1 else None
-
-
-def form_by_definition(powers, counter):
-    column = [given[counter] for given in powers]
-    for t in range(5):
-        for p in range(1, 5):
-            d = holds(column, t, p)
-            if d is not None:
-                return [t, p, d] + as_numbers(column[:t + p])
-    raise AssertionError(f"no form: {column!r}")
-
-
-def far_power(powers, n):
-    """Power n, by those from 4 on, which come again after 12 rounds with a steady amount more."""
-    times, rest = divmod(n - 4, 12)
-    early = powers[4 + rest]
-    steady = [later[1] - earlier[1] for earlier, later in zip(early, powers[16 + rest])]
-    return [(source, number + times * amount) for (source, number), amount in zip(early, steady)]
+def told(n):
+    return [0] if n is None else [1, n]
 
 
 class ByDefinitionTest(unittest.TestCase):
-    def check_alone(self, pairs, held):
-        count = len(pairs)
-        powers = all_powers(pairs, 30)
-        calls = [counters(count), move(1, *as_numbers(pairs)), values(*held)]
-        expected = [[count], [0], [0]]
-        stepped = held
-        for n in range(ROUNDS):
-            calls += [after(1, n), power(1, n)]
-            expected += [[0] + stepped, as_numbers(powers[n])]
-            stepped = one_round(pairs, stepped)
-        for counter in range(count):
-            calls.append(form(1, counter))
-            expected.append(form_by_definition(powers, counter))
-        for n in (10 ** 6, MILLION_MILLION - 1, MILLION_MILLION):
-            calls += [after(1, n), power(1, n)]
-            far = far_power(powers, n)
-            expected += [[0] + one_round(far, held), as_numbers(far)]
-        self.assertEqual(ask(*calls), expected)
-
-    def test_each_shape(self):
-        chosen = random.Random(1)
+    def each_shape(self, chosen):
         for count in (1, 2, 3, 4):
             for shape in shapes(count):
-                held = [chosen.randint(-10 ** 6, 10 ** 6) for counter in range(count)]
-                self.check_alone(with_numbers(shape, chosen), held)
+                yield count, shape, [chosen.randint(-10 ** 6, 10 ** 6) for counter in range(count)]
+
+    def test_after_power_form(self):
+        chosen = random.Random(1)
+        for count, shape, held in self.each_shape(chosen):
+            pairs = with_numbers(shape, chosen)
+            powers = all_powers(pairs, 30)
+            calls = [counters(count), move(1, *as_numbers(pairs)), values(*held)]
+            expected = [[count], [0], [0]]
+            for n, stepped in enumerate(round_by_round(pairs, held, ROUNDS)):
+                calls += [after(1, n), power(1, n)]
+                expected += [[0] + stepped, as_numbers(powers[n])]
+            for counter in range(count):
+                calls.append(form(1, counter))
+                expected.append(form_by_definition(powers, counter))
+            for n in (10 ** 6, MILLION_MILLION - 1, MILLION_MILLION):
+                calls += [after(1, n), power(1, n)]
+                expected += [[0] + far_values(pairs, held, n), as_numbers(far_power(pairs, n))]
+            self.assertEqual(ask(*calls), expected)
 
     def check_together(self, one, other):
-        ways = []
-        for first, second in ((one, other), (other, one)):
-            held = [10 ** 6 * (place + 1) for place in range(len(first))]
-            ways.append([read_back(value, 10 ** 6) for value in one_round(second, one_round(first, held))])
+        ways = [together(one, other), together(other, one)]
         otherwise = [counter for counter in range(len(one)) if ways[0][counter] != ways[1][counter]]
-        answered = ask(counters(len(one)), move(0, *as_numbers(one)), move(1, *as_numbers(other)), both(), commute())
-        self.assertEqual(answered[-2:], [as_numbers(ways[0]), [0, otherwise[0]] if otherwise else [1]])
+        line = [counters(len(one)), move(0, *as_numbers(one)), move(1, *as_numbers(other))]
+        joined = as_numbers(ways[0])
+        answered = ask(*line, both(), commute(), join(), power(0, 1), power(1, 1))
+        commutes = [0, otherwise[0]] if otherwise else [1]
+        self.assertEqual(answered[3:], [joined, commutes, joined, joined, as_numbers(other)])
 
-    def test_two_together(self):
+    def test_both_commute_join(self):
         chosen = random.Random(2)
         for count in (1, 2, 3, 4):
             every = list(shapes(count))
-            for turn in range(400):
+            for time in range(400):
                 one = with_numbers(chosen.choice(every), chosen)
                 other = with_numbers(chosen.choice(every), chosen)
                 self.check_together(one, other)
                 self.check_together(one, one)
+
+    def check_order_and_returns(self, pairs, held):
+        line = [counters(len(pairs)), move(0, *as_numbers(pairs)), values(*held), order(0), returns(0)]
+        expected = [least(all_powers(pairs, 12)), least(round_by_round(pairs, held, 12))]
+        self.assertEqual(ask(*line)[3:], expected, line)
+        return expected
+
+    def test_order_and_returns(self):
+        chosen = random.Random(3)
+        seen = set()
+        for count, shape, held in self.each_shape(chosen):
+            for numbers in ((0,), (-1, 1), (-1, 0, 1)):
+                for time in range(4):
+                    # Few different values, so that some come again.
+                    held = [chosen.randint(0, 1) for counter in range(count)]
+                    ordered, returned = self.check_order_and_returns(with_numbers(shape, chosen, numbers), held)
+                    seen.add(("order", *ordered))
+                    seen.add(("returns", *returned))
+        # No more can come: no circles of 4 counters in all come again together only later than after 4 rounds.
+        for name in ("order", "returns"):
+            for answer in ((0,), (1, 1), (1, 2), (1, 3), (1, 4)):
+                self.assertIn((name, *answer), seen)
+        self.assertEqual(len(seen), 10)
+
+    def test_turn(self):
+        chosen = random.Random(4)
+        for count, shape, held in self.each_shape(chosen):
+            pairs = with_numbers(shape, chosen)
+            line = [counters(count), move(0, *as_numbers(pairs)), values(*held)]
+            answered = ask(*line, turn(0))[-1]
+            if sorted(map(str, shape)) != [str(counter) for counter in range(count)]:
+                self.assertEqual(answered, [0], shape)
+                continue
+            own = as_numbers([(counter, 0) for counter in range(count)])
+            line.append(move(1, *answered[1:]))
+            self.assertEqual(answered[0], 1)
+            self.assertEqual(ask(*line, both(), commute())[-2:], [own, [1]])
+            self.assertEqual(ask(*line, go(0, 1), go(1, 1))[-2:], [[0] + one_round(pairs, held), [0] + held])
+            self.assertEqual(ask(*line, go(1, 7), go(0, 7))[-1], [0] + held)
+
+    def check_first_rounds(self, pairs, held, wanted):
+        rounds = round_by_round(pairs, held, 200)
+        for counter in range(len(pairs)):
+            calls = [counters(len(pairs)), move(0, *as_numbers(pairs)), values(*held)]
+            expected = []
+            for value in wanted:
+                calls += [when(0, counter, value), at_least(0, counter, value)]
+                for exact in (True, False):
+                    expected.append(told(first_round(rounds, counter, value, exact)))
+            self.assertEqual(ask(*calls)[3:], expected, calls)
+
+    def test_when_and_at_least(self):
+        chosen = random.Random(5)
+        for count, shape, held in self.each_shape(chosen):
+            near = [chosen.randint(-9, 9) for counter in range(count)]
+            self.check_first_rounds(with_numbers(shape, chosen, range(-3, 4)), near, range(-12, 13, 3))
+            pairs = with_numbers(shape, chosen)
+            far = chosen.choice(far_values(pairs, held, chosen.randint(0, 10 ** 15)))
+            self.check_first_rounds(pairs, held, (-FAR, FAR, far, far + 1, chosen.choice(held)))
+
+    def test_go(self):
+        chosen = random.Random(6)
+        for count, shape, held in self.each_shape(chosen):
+            pairs = with_numbers(shape, chosen)
+            for n in (0, 1, chosen.randint(2, 40), chosen.randint(10 ** 9, 10 ** 11), MILLION_MILLION):
+                line = [counters(count), move(1, *as_numbers(pairs)), values(*held), go(1, n), after(0, 0)]
+                reached = far_values(pairs, held, n)
+                expected = [[0] + reached, [0] + reached]
+                if max(map(abs, reached)) > MILLION_MILLION:
+                    expected = [[-7], [0] + held]
+                self.assertEqual(ask(*line)[3:], expected, line)
 
 
 if __name__ == "__main__":

@@ -4,20 +4,38 @@ import unittest
 
 from manyrounds.rounds import answers
 
-from lines import FAR, MILLION_MILLION, after, ask, both, commute, counters, form, last, move, power, values, written
+from lines import (
+    FAR, MILLION_MILLION, after, ask, at_least, both, commute, counters, everything, form, go, join, last, move, order,
+    power, returns, turn, values, when, written,
+)
 
-LINE = [
+SET = [
     counters(3),
     move(0, 1, 1, 1, 1, 2, 2, 0, 3),
-    move(1, 0, 1, 0, 2, 1, 0, 3),
+    move(1, 1, 1, 4, 1, 0, 5, 1, 2, -6),
     values(1, 2, 3),
+]
+
+LINE = [
+    *SET,
     after(0, 2),
     power(1, MILLION_MILLION),
     form(0, 0),
     both(),
     commute(),
+    order(1),
+    turn(1),
+    returns(0),
+    when(1, 0, 10),
+    at_least(1, 1, FAR),
+    join(),
+    go(1, 1000),
+    join(),
+    go(0, 1),
     move(2, 1, 2, 3),
     values(),
+    go(1, MILLION_MILLION),
+    go(0, FAR),
     counters(FAR),
 ]
 
@@ -53,6 +71,21 @@ class BeginningTest(unittest.TestCase):
             (form(1, 1), [-3]),
             (both(), [1, 0, 0]),
             (commute(), [1]),
+            (order(0), [1, 1]),
+            (order(2), [-2]),
+            (turn(1), [1, 1, 0, 0]),
+            (turn(-1), [-2]),
+            (returns(0), [1, 1]),
+            (returns(2), [-2]),
+            (when(0, 0, 0), [1, 0]),
+            (when(1, 0, 1), [0]),
+            (when(0, 1, 0), [-3]),
+            (at_least(1, 0, -FAR), [1, 0]),
+            (at_least(0, 0, 1), [0]),
+            (at_least(2, 1, 0), [-2]),
+            (join(), [1, 0, 0]),
+            (go(0, MILLION_MILLION), [0, 0]),
+            (go(1, -1), [-4]),
         ]
         for call, answer in firsts:
             self.assertEqual(answers(call), [len(answer)] + answer)
@@ -93,6 +126,15 @@ class LengthTest(unittest.TestCase):
             (power(0, -1), -4),
             (form(2, 6), -2),
             (form(0, 6), -3),
+            (order(6), -2),
+            (turn(6), -2),
+            (returns(6), -2),
+            (when(2, 6, 6), -2),
+            (when(0, 6, 6), -3),
+            (at_least(2, 6, 6), -2),
+            (at_least(0, 6, 6), -3),
+            (go(2, 6), -2),
+            (go(0, -1), -4),
         ]
         for call, number in refused:
             self.assertEqual(ask(call, call, both()), [[number], [number], [1, 0, 0]])
@@ -124,17 +166,20 @@ class NothingKeptTest(unittest.TestCase):
 
 class NothingChangedTest(unittest.TestCase):
     def test_calls_that_only_answer(self):
-        shown = [after(0, 0), power(0, 1), power(1, 1), form(0, 2), form(0, 3)]
-        before = ask(*LINE, *shown)[-len(shown):]
-        self.assertEqual(before, [[0, 1, 2, 3], LINE[1][3:], LINE[2][3:], [1, 1, 0, 1, 2, 0, 0, 3], [-3]])
+        shown = everything(3)
+        before = ask(*SET, *shown)[-len(shown):]
+        self.assertEqual(before, [[0, 1, 2, 3], SET[1][3:], SET[2][3:], [1, 1, 0, 1, 2, 0, 0, 3], [-3]])
         only_answer = [
             after(0, 5), after(1, MILLION_MILLION), after(5, 5), after(0, -5),
             power(0, 5), power(1, MILLION_MILLION), power(5, 5), power(0, -5),
             form(0, 0), form(1, 2), form(5, 0), form(0, 5), both(), commute(),
+            order(0), order(1), order(5), turn(0), turn(1), turn(5), returns(0), returns(1), returns(5),
+            when(0, 0, 3), when(1, 1, 10 ** 9), when(5, 0, 0), when(0, 5, 0),
+            at_least(0, 0, 3), at_least(1, 1, 10 ** 9), at_least(5, 0, 0), at_least(0, 5, 0),
         ]
         for call in only_answer:
-            self.assertEqual(ask(*LINE, call, *shown)[-len(shown):], before, call)
-            self.assertEqual(last(*LINE, call, call), last(*LINE, call))
+            self.assertEqual(ask(*SET, call, *shown)[-len(shown):], before, call)
+            self.assertEqual(last(*SET, call, call), last(*SET, call))
 
 
 if __name__ == "__main__":

@@ -8,20 +8,23 @@ import unittest
 
 PACKAGE = pathlib.Path(__file__).resolve().parent.parent / "manyrounds"
 
-# L6 and L7: the forms of statements and expressions that are used here and allowed.
+# L6 and L7: the forms of statements and expressions that are used here and allowed. What isn't among them needs no
+# look at its own rules: sets and lambdas (L13, L24), try and raise (L19), ** (L27).
 FORMS = """
-    Module FunctionDef ClassDef arguments arg Return Assign AugAssign For While If Raise Try ExceptHandler
-    ImportFrom alias Expr Pass Break Continue BoolOp And Or BinOp Add Sub Mult FloorDiv Mod UnaryOp Not USub
-    Lambda IfExp Dict ListComp comprehension Compare Eq NotEq Lt LtE Gt GtE Is IsNot In NotIn Call keyword
-    Constant Attribute Subscript Name List Tuple Slice Load Store
+    Module FunctionDef ClassDef arguments arg Return Assign AugAssign For While If ImportFrom alias Expr
+    BoolOp And Or BinOp Add Sub Mult FloorDiv Mod UnaryOp Not USub IfExp Dict ListComp comprehension
+    Compare Eq NotEq Lt LtE Gt GtE Is IsNot In NotIn Call keyword Constant Attribute Subscript Name List Tuple Slice
+    Load Store
 """.split()
 
-# L8, and less than L8 where L27 is narrower.
-OWN_NAMES = """
-    len range enumerate zip min max sum abs sorted reversed int str bool list tuple dict set frozenset isinstance
-    ord repr any all divmod Exception ValueError TypeError KeyError IndexError LookupError ZeroDivisionError
-    ArithmeticError OverflowError RuntimeError NotImplementedError AttributeError StopIteration
-""".split()
+# L8: those that are used here, without sets and errors for the same reason.
+OWN_NAMES = "len range enumerate zip min max sum abs sorted list tuple dict any all".split()
+
+# L23: these are only walked, not kept.
+WALKED = "range enumerate zip".split()
+
+# L26: these methods change what they are called on.
+CHANGING = "append clear extend insert pop remove reverse setdefault update".split()
 
 # L25.
 OWN_METHODS = """
@@ -65,6 +68,27 @@ def is_plain(node):
     return isinstance(node, (ast.Constant, ast.Name))
 
 
+def called(node):
+    """The name that is called; None if it's no plain name."""
+    return node.func.id if isinstance(node.func, ast.Name) else None
+
+
+def is_method(node):
+    return isinstance(node, ast.Attribute) and node.attr in OWN_METHODS
+
+
+def as_read(node):
+    return ast.dump(node).replace("ctx=Store()", "ctx=Load()")
+
+
+def bound_in(function):
+    names = {node.arg for node in ast.walk(function) if isinstance(node, ast.arg)}
+    for node in ast.walk(function):
+        if isinstance(node, ast.Name) and isinstance(node.ctx, ast.Store):
+            names.add(node.id)
+    return names
+
+
 class LanguageTest(unittest.TestCase):
     def test_files(self):
         names = [path.name for path in files()]
@@ -95,6 +119,7 @@ class LanguageTest(unittest.TestCase):
     def test_assignments_and_loops(self):
         for path, node in nodes(ast.Assign):
             self.assertEqual(len(node.targets), 1)
+            self.assertIsInstance(node.targets[0], (ast.Name, ast.Attribute, ast.Subscript))
         for path, node in nodes((ast.For, ast.While)):
             self.assertEqual(node.orelse, [])
         for path, node in nodes(ast.ListComp):
@@ -153,6 +178,93 @@ class LanguageTest(unittest.TestCase):
             self.assertNotIn(node.attr, NO_ATTRIBUTES)
             self.assertIn(node.attr, [*methods, *own, *OWN_METHODS])
         self.assertEqual(own & set(OWN_METHODS), set())
+
+
+    def test_methods_with_two_underscores(self):
+        for path, node in nodes(ast.FunctionDef):
+            if node.name.startswith("__"):
+                self.assertEqual(node.name, "__init__")
+                self.assertEqual([part for part in ast.walk(node) if isinstance(part, ast.Return)], [])
+
+    def test_annotations(self):
+        for path, node in nodes(ast.FunctionDef):
+            self.assertIsNone(node.returns)
+            for part in node.args.args:
+                self.assertIsNone(part.annotation)
+
+    def test_constants(self):
+        for path, node in nodes(ast.Constant):
+            self.assertIn(node.value.__class__, (int, str, bool, None.__class__))
+            self.assertNotIn("%", str(node.value))
+            self.assertNotIn("\\", str(node.value))
+
+    def test_is(self):
+        for path, node in nodes(ast.Compare):
+            for part, right in zip(node.ops, node.comparators):
+                if isinstance(part, (ast.Is, ast.IsNot)):
+                    self.assertIsInstance(right, ast.Constant)
+                    self.assertIn(right.value, (None, True, False))
+
+    def test_keywords(self):
+        for path, node in nodes(ast.Call):
+            for part in node.keywords:
+                self.assertEqual((called(node), part.arg), ("min", "default"))
+
+    def test_own_names_are_only_called(self):
+        for path, tree in trees():
+            heads = [node.func for node in ast.walk(tree) if isinstance(node, ast.Call)]
+            for node in ast.walk(tree):
+                if isinstance(node, ast.Name) and node.id in OWN_NAMES or is_method(node):
+                    self.assertIn(node, heads)
+
+    def test_walked_at_once(self):
+        for path, tree in trees():
+            walks = [node.iter for node in ast.walk(tree) if isinstance(node, (ast.For, ast.comprehension))]
+            for node in ast.walk(tree):
+                if isinstance(node, ast.Call) and called(node) in WALKED:
+                    self.assertIn(node, walks)
+
+    def test_what_a_loop_walks_is_not_changed_in_it(self):
+        for path, loop in nodes(ast.For):
+            walked = {ast.dump(part) for part in [loop.iter, *getattr(loop.iter, "args", [])]}
+            for node in ast.walk(loop):
+                if isinstance(node, ast.Subscript) and isinstance(node.ctx, ast.Store):
+                    self.assertNotIn(as_read(node.value), walked)
+                if isinstance(node, ast.Attribute) and node.attr in CHANGING:
+                    self.assertNotIn(as_read(node.value), walked)
+
+    def test_locals_are_not_called_like_what_stands_at_the_top(self):
+        for path, tree in trees():
+            taken = [alias.name for row in tree.body if isinstance(row, ast.ImportFrom) for alias in row.names]
+            taken += [node.name for node in tree.body if isinstance(node, ast.ClassDef)]
+            for function in ast.walk(tree):
+                if isinstance(function, ast.FunctionDef):
+                    self.assertEqual(bound_in(function) & set(taken), set(), function.name)
+
+    def test_what_stands_at_the_top_is_only_read_by_an_index(self):
+        for path, tree in trees():
+            rows = [row for row in tree.body if isinstance(row, ast.Assign)]
+            kept = [row.targets[0].id for row in rows if isinstance(row.value, (ast.List, ast.Dict))]
+            indexed = [node.value for node in ast.walk(tree) if isinstance(node, ast.Subscript)
+                       and isinstance(node.ctx, ast.Load)]
+            for node in ast.walk(tree):
+                if isinstance(node, ast.Name) and node.id in kept and isinstance(node.ctx, ast.Load):
+                    self.assertIn(node, indexed)
+
+    def test_no_two_files_draw_from_one_another(self):
+        drawn = {}
+        for path, tree in trees():
+            rows = [row for row in tree.body if isinstance(row, ast.ImportFrom)]
+            drawn["manyrounds." + path.stem] = {row.module for row in rows}
+            for row in rows:
+                defining = ast.parse((PACKAGE / (row.module.split(".")[1] + ".py")).read_text())
+                tops = [node.name for node in defining.body if isinstance(node, (ast.FunctionDef, ast.ClassDef))]
+                self.assertIn(row.names[0].name, tops)
+        while drawn:
+            free = [name for name in drawn if not drawn[name] & set(drawn)]
+            self.assertNotEqual(free, [], drawn)
+            for name in free:
+                del drawn[name]
 
 
 if __name__ == "__main__":
